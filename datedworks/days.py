@@ -1,25 +1,14 @@
 """A list of calls in, their answers out."""
 
 from datedworks.calendars import is_day, weekday_of
+from datedworks.calls import CALL_DROP, CALL_FOLLOWS, CALL_NOT_AFTER, CALL_NOT_BEFORE, CALL_READ, CALL_RESTATE
+from datedworks.calls import CALL_SHOW, CALL_WEEKDAY, CALL_WITHDRAW, CALL_WITHIN, CALL_WORK
+from datedworks.calls import NUMBER_COUNTS, ROW_COUNTS
 from datedworks.catalogue import Catalogue
 from datedworks.datetexts import read_text, show_day
+from datedworks.questions import ask
 from datedworks.refusals import OUT_OF_RANGE
 from datedworks.ways import FOLLOWS, NOT_AFTER, NOT_BEFORE, WITHIN
-
-CALL_READ = 0
-CALL_SHOW = 1
-CALL_WEEKDAY = 2
-CALL_WORK = 3
-CALL_RESTATE = 4
-CALL_DROP = 5
-CALL_NOT_BEFORE = 6
-CALL_NOT_AFTER = 7
-CALL_FOLLOWS = 8
-CALL_WITHIN = 9
-
-# By a call's number: how many whole numbers it has, and how many rows behind them.
-NUMBER_COUNTS = (0, 2, 1, 1, 1, 1, 3, 3, 4, 4, 1)
-ROW_COUNTS = (1, 0, 0, 1, 1, 0, 0, 0, 0, 0, 0)
 
 
 def weekday_answer(day):
@@ -54,7 +43,9 @@ def answer_of(catalogue, call, numbers, row):
         return [change_works(catalogue, call, numbers, row)]
     if call in (CALL_NOT_BEFORE, CALL_NOT_AFTER, CALL_FOLLOWS, CALL_WITHIN):
         return [add_evidence(catalogue, call, numbers)]
-    return [catalogue.withdraw(numbers[0])]
+    if call == CALL_WITHDRAW:
+        return [catalogue.withdraw(numbers[0])]
+    return ask(catalogue, call, numbers, row)
 
 
 def answers(calls):

@@ -1,4 +1,4 @@
-"""Ways of dating: whether works and evidence leave one, and the latest days in them.
+"""Ways of dating: whether works and evidence leave one, and the latest and the earliest days in them.
 
 works is a dict from keys to (first, last), the stated interval. evidence is a dict from keys
 to (kind, u, v, amount); of the kinds NOT_BEFORE and NOT_AFTER u is the work, v is 0 and amount the day.
@@ -42,6 +42,38 @@ def latest_days(works, evidence):
             return latest
         latest = closer
     return None
+
+
+def mirrored_works(works):
+    mirrored = {}
+    for key, interval in works.items():
+        mirrored[key] = (-interval[1], -interval[0])
+    return mirrored
+
+
+def mirrored_evidence(evidence):
+    mirrored = {}
+    for key, piece in evidence.items():
+        mirrored[key] = mirrored_piece(piece[0], piece[1], piece[2], piece[3])
+    return mirrored
+
+
+def mirrored_piece(kind, u, v, amount):
+    if kind == NOT_BEFORE:
+        return (NOT_AFTER, u, v, -amount)
+    if kind == NOT_AFTER:
+        return (NOT_BEFORE, u, v, -amount)
+    return (kind, v, u, amount)
+
+
+def earliest_days(works, evidence):
+    """The earliest day of each work, where there is a way of dating."""
+    # With each day d read as -d, what was earliest is latest.
+    latest = latest_days(mirrored_works(works), mirrored_evidence(evidence))
+    earliest = {}
+    for key, day in latest.items():
+        earliest[key] = -day
+    return earliest
 
 
 def has_way(works, evidence):

@@ -1,4 +1,7 @@
-"""Calls by name, laid out as lists of numbers, and their answers taken apart again."""
+"""Calls by name, laid out as lists of numbers, and their answers taken apart again; all ways of dating tried out."""
+
+import datetime
+import itertools
 
 from datedworks.days import answers
 
@@ -58,6 +61,64 @@ def withdraw(e):
     return [10, e]
 
 
+def latest(key):
+    return [11, key]
+
+
+def earliest(key):
+    return [12, key]
+
+
+def apart(u, v):
+    return [13, u, v]
+
+
+def order(u, v):
+    return [14, u, v]
+
+
+def why(key):
+    return [15, key]
+
+
+def bound(key, chain):
+    return [16, key] + row(chain)
+
+
+def list_of():
+    return [17]
+
+
+def told():
+    return [18]
+
+
+def idle(e):
+    return [19, e]
+
+
+def try_out(kind, u, v, g):
+    """The call test: a name that begins so would look like a test itself."""
+    return [20, kind, u, v, g]
+
+
+def interval_text(first, last):
+    """The text of an interval of days in the Gregorian calendar."""
+    start = datetime.date(1700, 1, 1)
+    return f"{start + datetime.timedelta(first)}..{start + datetime.timedelta(last)}"
+
+
+def work_from(key, first, last):
+    return work(key, interval_text(first, last))
+
+
+def evidence(e, kind, u, v, amount):
+    """The call for evidence of that kind; v isn't looked at for kinds 0 and 1."""
+    if kind < 2:
+        return (not_before, not_after)[kind](e, u, amount)
+    return (follows, within)[kind - 2](e, u, v, amount)
+
+
 def ask(*calls):
     """The answer of each call of one list, as a list of its own."""
     laid_out = []
@@ -97,3 +158,18 @@ def shown_text(calendar, day):
     if answer[0] != 0:
         return answer
     return bytes(answer[1:]).decode("latin-1")
+
+
+def all_ways(stated, kept):
+    """Each way of dating as a dict, one after another, found by trying each."""
+    keys = sorted(stated)
+    for days in itertools.product(*[range(stated[key][0], stated[key][1] + 1) for key in keys]):
+        dated = dict(zip(keys, days))
+        if all(is_met(dated, *piece) for piece in kept.values()):
+            yield dated
+
+
+def is_met(dated, kind, u, v, amount):
+    if kind < 2:
+        return (dated[u] >= amount, dated[u] <= amount)[kind]
+    return (dated[u] + amount <= dated[v], dated[v] <= dated[u] + amount)[kind - 2]

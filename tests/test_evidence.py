@@ -1,5 +1,4 @@
 import itertools
-import random
 import unittest
 
 from tests.helper import (LARGEST_KEY, LARGEST_NUMBER, drop, first_numbers, follows, not_after, not_before, restate,
@@ -246,62 +245,6 @@ class NoWay(unittest.TestCase):
             self.assertEqual(last_number(*put, not_before(51, order[0], 1101)), -7)
             self.assertEqual(last_number(*put, restate(order[0], "1703-01-06")), 0)
             self.assertEqual(last_number(*put, restate(order[0], "1703-01-07")), -7)
-
-    def test_against_all_ways_tried_out(self):
-        source = random.Random(1758)
-        for attempt in range(150):
-            self.check_against_trial(source)
-
-    def check_against_trial(self, source):
-        """Three works of a few days each, so that every way of dating can be tried."""
-        stated, calls, expected, kept = {}, [], [], {}
-        for key in (1, 2, 3):
-            first = source.randint(1, 6)
-            stated[key] = (first, first + source.randint(0, 5))
-            calls.append(work(key, f"1700-01-{stated[key][0]:02}..1700-01-{stated[key][1]:02}"))
-            expected.append(0)
-        for e in range(1, 13):
-            trial_stated, trial_kept = dict(stated), dict(kept)
-            calls.append(self.random_change(source, e, trial_stated, trial_kept))
-            if ways(trial_stated, trial_kept):
-                stated, kept = trial_stated, trial_kept
-                expected.append(0)
-            else:
-                expected.append(-7)
-        self.assertEqual(first_numbers(*calls), expected, calls)
-
-    def random_change(self, source, e, stated, kept):
-        choice = source.randint(0, 11)
-        u, v = source.sample((1, 2, 3), 2)
-        if choice == 0:
-            first = source.randint(1, 6)
-            stated[u] = (first, first + source.randint(0, 5))
-            return restate(u, f"1700-01-{stated[u][0]:02}..1700-01-{stated[u][1]:02}")
-        if choice == 1 and kept:
-            gone = source.choice(sorted(kept))
-            del kept[gone]
-            return withdraw(gone)
-        kind = choice % 4
-        amount = source.randint(0, 10) if kind < 2 else source.randint(0, 4)
-        kept[e] = (kind, u, v, amount)
-        if kind < 2:
-            return ONE_WORK[kind](e, u, amount)
-        return TWO_WORKS[kind - 2](e, u, v, amount)
-
-
-def ways(stated, kept):
-    """Whether some way of dating meets everything, found by trying each."""
-    # Day 0 is the first of January, so the day of a date is one less than its number.
-    ranges = [range(stated[key][0] - 1, stated[key][1]) for key in (1, 2, 3)]
-    for days in itertools.product(*ranges):
-        if all(is_met(days, *piece) for piece in kept.values()):
-            return True
-    return False
-
-
-def is_met(days, kind, u, v, amount):
-    day_of_u, day_of_v = days[u - 1], days[v - 1]
-    return (day_of_u >= amount, day_of_u <= amount, day_of_u + amount <= day_of_v, day_of_v <= day_of_u + amount)[kind]
 
 
 if __name__ == "__main__":

@@ -77,6 +77,19 @@ class Language(unittest.TestCase):
                 if isinstance(node, ast.arg):
                     self.assertFalse(hasattr(builtins, node.arg), (path, node.arg))
 
+    def test_no_name_stands_for_two_things(self):
+        for path in FILES:
+            nodes = nodes_of(path)
+            taken = [alias.asname or alias.name for node in nodes if isinstance(node, ast.ImportFrom)
+                     for alias in node.names]
+            taken += [node.name for node in nodes if isinstance(node, ast.ClassDef)]
+            given = [node.id for node in nodes if isinstance(node, ast.Name) and isinstance(node.ctx, ast.Store)]
+            given += [node.arg for node in nodes if isinstance(node, ast.arg)]
+            self.assertEqual(sorted(set(taken) & set(given)), [], path)
+            top = [node.name for node in nodes[0].body if isinstance(node, ast.FunctionDef)]
+            top += [target.id for node in nodes[0].body if isinstance(node, ast.Assign) for target in node.targets]
+            self.assertEqual(len(taken + top), len(set(taken + top)), path)
+
     def test_methods(self):
         own = []
         for path in FILES:
